@@ -390,8 +390,9 @@ func checkRead(t *testing.T, words map[uint32]impl.Ctl, x uint32) {
 	}
 }
 
-func TestWordsRefused(t *testing.T) {
-	words := []uint32{
+// badWords has words that no control state has, for each reason.
+func badWords() []uint32 {
+	return []uint32{
 		1, 2, 65535, // free, with a map
 		65536, 5 * 65536, // free, with a class
 		16777216, 33554432, // free, with a run
@@ -407,7 +408,10 @@ func TestWordsRefused(t *testing.T) {
 		0x80000000, 0x80000000 + 35651584, 0x40000000 + 1048577, 0x20000000 + 35651584, // a bit beyond every run
 		top, top - 1, 0xffff0000, 0xfffffff0,
 	}
-	for _, x := range words {
+}
+
+func TestWordsRefused(t *testing.T) {
+	for _, x := range badWords() {
 		checkWordRefused(t, x)
 	}
 }
