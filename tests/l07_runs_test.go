@@ -511,21 +511,28 @@ func (c *crew) checkPlace(f impl.Fact, size int) {
 	}
 }
 
-// hear checks a fact against the live blocks.
-func (c *crew) hear(f impl.Fact) {
-	ok, size := true, f.Size
-	b, found := impl.LiveFind(c.live, heapWords, f.At)
+// heard returns the live blocks after a fact, and whether it is right about them.
+func heard(live []impl.Block, f impl.Fact) ([]impl.Block, bool) {
+	b, found := impl.LiveFind(live, heapWords, f.At)
 	switch f.Kind {
 	case 1:
-		c.live, ok = impl.LiveAdd(c.live, heapWords, impl.Block{At: f.At, Size: f.Size})
+		return impl.LiveAdd(live, heapWords, impl.Block{At: f.At, Size: f.Size})
 	case 2:
-		c.live, size, ok = impl.LiveCut(c.live, heapWords, f.At)
+		left, size, ok := impl.LiveCut(live, heapWords, f.At)
+		return left, ok && size == f.Size
 	case 4:
-		ok = !found || b.At != f.At
+		return live, !found || b.At != f.At
 	}
-	if !ok || size != f.Size {
+	return live, f.Kind == 3
+}
+
+// hear checks a fact against the live blocks.
+func (c *crew) hear(f impl.Fact) {
+	live, ok := heard(c.live, f)
+	if !ok {
 		c.t.Fatalf("%+v is wrong about the live blocks %v", f, c.live)
 	}
+	c.live = live
 }
 
 // checkGot checks that every lane that requested something has got what its one fact says, and the others nothing.
@@ -543,10 +550,10 @@ func (c *crew) checkGot(id int) {
 	}
 }
 
-// checkWords checks that the words have exactly the live blocks.
-func (c *crew) checkWords() {
+// blocksIn returns the allocated blocks that the words show, in order.
+func blocksIn(words []uint32) []impl.Block {
 	var list []impl.Block
-	for chunk, x := range c.words {
+	for chunk, x := range words {
 		s, _ := readCtl(x)
 		for _, start := range takenStarts(s) {
 			list = append(list, impl.Block{At: 16*chunk + start, Size: sizeOfClass[s.Class]})
@@ -555,7 +562,12 @@ func (c *crew) checkWords() {
 			list = append(list, impl.Block{At: 16 * chunk, Size: 16 * s.Run})
 		}
 	}
-	if !slices.Equal(list, c.live) {
+	return list
+}
+
+// checkWords checks that the words have exactly the live blocks.
+func (c *crew) checkWords() {
+	if list := blocksIn(c.words); !slices.Equal(list, c.live) {
 		c.t.Fatalf("the words %v have the blocks %v, the facts %v", c.words, list, c.live)
 	}
 }
