@@ -292,6 +292,7 @@ func checkEvent(t *testing.T, m impl.Mach, e impl.Event) done {
 	if !slices.Equal(live, blocksIn(d.mach.Mem.Words)) {
 		t.Fatalf("%+v of %+v: the words %v do not have the blocks %v", e, m, d.mach.Mem.Words, live)
 	}
+	checkAudited(t, m, e, d)
 	return d
 }
 
