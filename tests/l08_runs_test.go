@@ -182,6 +182,8 @@ type seen struct {
 	ends   []impl.Mach
 	facts  map[int]int
 	gaveUp int
+	// The farthest Probe.
+	farthest int
 }
 
 // playAll goes through every interleaving of a story: each scene that can be reached, once, and all that can happen there.
@@ -222,6 +224,7 @@ func (all *seen) count(d done) {
 		if w.Kind == 1 && w.Phase == 2 {
 			all.gaveUp++
 		}
+		all.farthest = max(all.farthest, w.Probe)
 	}
 }
 
